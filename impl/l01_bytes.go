@@ -21,6 +21,8 @@ const (
 	MaxTime   = 1000000000
 )
 
+const maxByte = 255
+
 // maxWord is also what a sum and its check come to together.
 const maxWord = 65535
 
@@ -103,6 +105,10 @@ func layWords(words ...int64) []byte {
 		laid = append(laid, byte(word>>8), byte(word))
 	}
 	return laid
+}
+
+func isByte(n int64) bool {
+	return n >= 0 && n <= maxByte
 }
 
 func isWord(n int64) bool {
