@@ -115,6 +115,10 @@ func isWord(n int64) bool {
 	return n >= 0 && n <= maxWord
 }
 
+func isTime(n int64) bool {
+	return n >= 0 && n <= MaxTime
+}
+
 func tooLong(text string) bool {
 	return len(text) > MaxBytes
 }
