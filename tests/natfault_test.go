@@ -55,48 +55,52 @@ func TestPacketsThatAreTaken(t *testing.T) {
 	}
 }
 
+// wrongPools are changes that make the pool of home wrong, in itself or beside the bib of home.
+var wrongPools = map[string]func(p *impl.Pool){
+	"no addresses":      func(p *impl.Pool) { p.Addrs = nil },
+	"nine addresses":    func(p *impl.Pool) { p.Addrs = lentAddrs(9) },
+	"two alike":         func(p *impl.Pool) { p.Addrs = append(p.Addrs, lentOne) },
+	"one of 16 bytes":   func(p *impl.Pool) { p.Addrs = append(p.Addrs, hostSix) },
+	"Low of 0":          func(p *impl.Pool) { p.Low = 0 },
+	"Low above High":    func(p *impl.Pool) { p.Low, p.High = 1009, 1008 },
+	"High of 65536":     func(p *impl.Pool) { p.High = 65536 },
+	"Most of 0":         func(p *impl.Pool) { p.Most = 0 },
+	"Most of 61":        func(p *impl.Pool) { p.Most = 61 },
+	"Filter below 0":    func(p *impl.Pool) { p.Filter = -1 },
+	"Filter of 3":       func(p *impl.Pool) { p.Filter = 3 },
+	"a life of 0":       func(p *impl.Pool) { p.Lives.Open = 0 },
+	"a life of 10001":   func(p *impl.Pool) { p.Lives.Udp = 10001 },
+	"nothing":           func(p *impl.Pool) { *p = impl.Pool{} },
+	"far too many":      func(p *impl.Pool) { p.Addrs = slices.Repeat([]string{lentOne}, impl.MaxList+1) },
+	"a very long text":  func(p *impl.Pool) { p.Addrs[2] = strings.Repeat("a", impl.MaxBytes+1) },
+	"Most of the binds": func(p *impl.Pool) { p.Most = 6 },
+	"another Out":       func(p *impl.Pool) { p.Addrs = lentAddrs(1) },
+	"other ports":       func(p *impl.Pool) { p.Low = 1003 },
+}
+
+// wrongBibs are changes that make the bib of home wrong.
+var wrongBibs = map[string]func(b *impl.Bib){
+	"no sessions":        func(b *impl.Bib) { b.Sessions = nil },
+	"no binds":           func(b *impl.Bib) { b.Binds = nil },
+	"a bind twice":       func(b *impl.Bib) { b.Binds = append(b.Binds, b.Binds[0]) },
+	"a session twice":    func(b *impl.Bib) { b.Sessions = append(b.Sessions, b.Sessions[0]) },
+	"two Outs of one In": func(b *impl.Bib) { b.Binds[1].Out = lentTwo },
+	"a port lent twice":  func(b *impl.Bib) { b.Binds[2].OutPort = 1002 },
+	"a strange proto":    func(b *impl.Bib) { b.Binds[3].Proto, b.Sessions[3].Proto = impl.Icmp6, impl.Icmp6 },
+	"a state of UDP":     func(b *impl.Bib) { b.Sessions[0].State = impl.Opening },
+	"no state":           func(b *impl.Bib) { b.Sessions[1].State = 0 },
+	"a time below 0":     func(b *impl.Bib) { b.Sessions[6].Until = -1 },
+	"a peer of 16 bytes": func(b *impl.Bib) { b.Sessions[6].Peer = hostSix },
+	"very many sessions": func(b *impl.Bib) { b.Sessions = slices.Repeat(b.Sessions, 100) },
+}
+
 // Pools and bibs that are not right are refused ahead of all else.
 func TestNatOfWrongPoolsAndBibs(t *testing.T) {
-	pools := map[string]func(p *impl.Pool){
-		"no addresses":      func(p *impl.Pool) { p.Addrs = nil },
-		"nine addresses":    func(p *impl.Pool) { p.Addrs = lentAddrs(9) },
-		"two alike":         func(p *impl.Pool) { p.Addrs = append(p.Addrs, lentOne) },
-		"one of 16 bytes":   func(p *impl.Pool) { p.Addrs = append(p.Addrs, hostSix) },
-		"Low of 0":          func(p *impl.Pool) { p.Low = 0 },
-		"Low above High":    func(p *impl.Pool) { p.Low, p.High = 1009, 1008 },
-		"High of 65536":     func(p *impl.Pool) { p.High = 65536 },
-		"Most of 0":         func(p *impl.Pool) { p.Most = 0 },
-		"Most of 61":        func(p *impl.Pool) { p.Most = 61 },
-		"Filter below 0":    func(p *impl.Pool) { p.Filter = -1 },
-		"Filter of 3":       func(p *impl.Pool) { p.Filter = 3 },
-		"a life of 0":       func(p *impl.Pool) { p.Lives.Open = 0 },
-		"a life of 10001":   func(p *impl.Pool) { p.Lives.Udp = 10001 },
-		"nothing":           func(p *impl.Pool) { *p = impl.Pool{} },
-		"far too many":      func(p *impl.Pool) { p.Addrs = slices.Repeat([]string{lentOne}, impl.MaxList+1) },
-		"a very long text":  func(p *impl.Pool) { p.Addrs[2] = strings.Repeat("a", impl.MaxBytes+1) },
-		"Most of the binds": func(p *impl.Pool) { p.Most = 6 },
-		"another Out":       func(p *impl.Pool) { p.Addrs = lentAddrs(1) },
-		"other ports":       func(p *impl.Pool) { p.Low = 1003 },
-	}
-	bibs := map[string]func(b *impl.Bib){
-		"no sessions":        func(b *impl.Bib) { b.Sessions = nil },
-		"no binds":           func(b *impl.Bib) { b.Binds = nil },
-		"a bind twice":       func(b *impl.Bib) { b.Binds = append(b.Binds, b.Binds[0]) },
-		"a session twice":    func(b *impl.Bib) { b.Sessions = append(b.Sessions, b.Sessions[0]) },
-		"two Outs of one In": func(b *impl.Bib) { b.Binds[1].Out = lentTwo },
-		"a port lent twice":  func(b *impl.Bib) { b.Binds[2].OutPort = 1002 },
-		"a strange proto":    func(b *impl.Bib) { b.Binds[3].Proto, b.Sessions[3].Proto = impl.Icmp6, impl.Icmp6 },
-		"a state of UDP":     func(b *impl.Bib) { b.Sessions[0].State = impl.Opening },
-		"no state":           func(b *impl.Bib) { b.Sessions[1].State = 0 },
-		"a time below 0":     func(b *impl.Bib) { b.Sessions[6].Until = -1 },
-		"a peer of 16 bytes": func(b *impl.Bib) { b.Sessions[6].Peer = hostSix },
-		"very many sessions": func(b *impl.Bib) { b.Sessions = slices.Repeat(b.Sessions, 100) },
-	}
 	for _, c := range append(takenPackets(), untaken()...) {
-		for what, change := range pools {
+		for what, change := range wrongPools {
 			c.way.refuses(t, "a pool: "+what, poolWith(filtered(0), change), homeBib(), c.q, 100, impl.ErrForm)
 		}
-		for what, change := range bibs {
+		for what, change := range wrongBibs {
 			c.way.refuses(t, "a bib: "+what, filtered(0), bibWith(homeBib(), change), c.q, 100, impl.ErrForm)
 		}
 	}
