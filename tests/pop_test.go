@@ -90,8 +90,8 @@ type signRoute struct {
 
 func signs(a string) string {
 	var text strings.Builder
-	for i := range len(a) {
-		fmt.Fprintf(&text, "%08b", a[i])
+	for i := range 8 * len(a) {
+		text.WriteByte('0' + a[i/8]<<(i%8)>>7)
 	}
 	return text.String()
 }
